@@ -1,0 +1,1 @@
+"""Hillrows: rows of ups and downs that stay above the ground."""
