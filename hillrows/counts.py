@@ -51,16 +51,16 @@ def lower_of(height, ceiling):
     return height if ceiling is None else min(height, ceiling)
 
 
-def is_number(value, most):
-    """Whether a value is a whole number from 0 to the most; True and False are none."""
-    return isinstance(value, int) and not isinstance(value, bool) and 0 <= value <= most
+def is_number(value, most, least=0):
+    """Whether a value is a whole number from the least to the most; True and False are none."""
+    return isinstance(value, int) and not isinstance(value, bool) and least <= value <= most
 
 
-def check_number(value, most):
-    """Refuse what is no whole number from 0 to the most."""
+def check_number(value, most, least=0):
+    """Refuse what is no whole number from the least to the most."""
     # The message leaves the value out: Python writes no number of very many digits.
-    if not is_number(value, most):
-        raise NoCount(f"no whole number from 0 to {most}")
+    if not is_number(value, most, least):
+        raise NoCount(f"no whole number from {least} to {most}")
 
 
 def check_ceiling(ceiling):

@@ -38,7 +38,7 @@ def is_row(text):
     return isinstance(text, str) and all([sign in (UP, DOWN) for sign in text])
 
 
-def check_hill(row, ceiling):
+def check_hill(row, ceiling=None):
     """Refuse what is no hill row under a ceiling."""
     if not is_hill(row, ceiling):
         raise NoRow("no hill row, or none under this ceiling")

@@ -14,6 +14,12 @@ FUNCTIONS = {
     "ranks": {"rank": "(row, ceiling=None)", "row_at": "(n, r, ceiling=None)",
               "sign_at": "(n, r, place, ceiling=None)", "next_row": "(row, ceiling=None)",
               "ahead_row": "(row, ceiling=None)"},
+    "trees": {"folded": "(row)", "unfolded": "(grove)", "pairs": "(row)", "row_of_pairs": "(places)", "cut": "(row)",
+              "parts": "(row)"},
+    "turns": {"stays": "(row)"},
+    "joins": {"joined": "(rows)", "lifted": "(row, times=1)", "mirrored": "(row)", "rank_told": "(row)",
+              "row_told": "(n, k, i, r)"},
+    "runs": {"runs": "(row)", "row_of": "(text)"},
 }
 
 
@@ -66,6 +72,23 @@ class Functions(unittest.TestCase):
             self.assertIs(number.__class__, int)
         for text in (ranks.row_at(3, 2), ranks.row_at(0, 0), ranks.sign_at(3, 2, 1), ranks.next_row("udud"),
                      ranks.ahead_row("uudd")):
+            self.assertIs(text.__class__, str)
+
+    def test_kinds_of_values_of_trees_turns_joins_and_runs(self):
+        from hillrows import joins, runs, trees, turns
+        for grove in (trees.folded(""), trees.folded("uudd")):
+            self.assertIs(grove.__class__, tuple)
+        for told in (trees.pairs(""), trees.pairs("ud"), trees.parts(""), trees.parts("ud")):
+            self.assertIs(told.__class__, list)
+        self.assertIs(trees.cut("uudd").__class__, tuple)
+        self.assertIs(joins.rank_told("uudd").__class__, tuple)
+        for number in (*trees.pairs("uudd"), turns.stays("d"), turns.stays("ddu"), *joins.rank_told("uududd")):
+            self.assertIs(number.__class__, int)
+        for text in (trees.unfolded(()), trees.unfolded(((),)), trees.row_of_pairs([]), trees.row_of_pairs([1, 0]),
+                     *trees.cut("ud"), *trees.parts("udud"), joins.joined([]), joins.joined(["ud"]),
+                     joins.lifted("", 0), joins.lifted("ud"), joins.mirrored(""), joins.mirrored("ud"),
+                     joins.row_told(1, 0, 0, 0), runs.runs(""), runs.runs("ud"), runs.row_of("-"),
+                     runs.row_of("u1 d1")):
             self.assertIs(text.__class__, str)
 
 

@@ -6,20 +6,11 @@ from hillrows.counts import counted
 from hillrows.errors import NoCount, NoPlace, NoRank, NoRow
 from hillrows.ranks import ahead_row, next_row, rank, row_at, sign_at
 from hillrows.rows import is_hill, peak
-from tests.brute import CEILINGS, NO_CEILINGS, NO_NUMBERS, NO_ROWS, catalan, hill_rows
+from tests.brute import CEILINGS, NO_CEILINGS, NO_NUMBERS, NO_ROWS, catalan, hill_rows, refusal
 
 OF_A_ROW = (rank, next_row, ahead_row)
 
 NO_COUNTS = (*NO_NUMBERS, 201, 10 ** 5000)
-
-
-def refusal(work, *told):
-    """The class of the error that a work refuses its arguments with; None where it answers."""
-    try:
-        work(*told)
-    except ValueError as error:
-        return error.__class__
-    return None
 
 
 class ShortRows(unittest.TestCase):
